@@ -1,0 +1,1 @@
+"""Majority on each: what a panel of judges says, question by question."""

@@ -1,0 +1,79 @@
+"""The calls over a panel: m questions, ok the rows that may stand, v what the judges say."""
+
+REFUSED = -22
+MOST_QUESTIONS = 5
+MOST_JUDGES = 15
+
+# Place q has what question q counts in a row; place m has the first number that is no row of m questions.
+POWERS = (1, 2, 4, 8, 16, 32)
+
+
+def is_number(x):
+    # Python counts True and False among its ints, the document does not.
+    return isinstance(x, int) and not isinstance(x, bool)
+
+
+def is_row(m, x):
+    return is_number(x) and 0 <= x < POWERS[m]
+
+
+def questions_allowed(m):
+    return is_number(m) and 1 <= m <= MOST_QUESTIONS
+
+
+def rules_allowed(m, ok):
+    if not isinstance(ok, list) or len(ok) == 0:
+        return False
+    for row in ok:
+        if not is_row(m, row) or ok.count(row) > 1:
+            return False
+    return True
+
+
+def judges_allowed(ok, v):
+    if not isinstance(v, list) or not 1 <= len(v) <= MOST_JUDGES:
+        return False
+    for row in v:
+        # True would be found in ok as 1, so being there is not enough.
+        if not is_number(row) or row not in ok:
+            return False
+    return True
+
+
+def panel_allowed(m, ok, v):
+    # m goes first: the rows are measured by POWERS[m], which is there for an allowed m alone.
+    return questions_allowed(m) and rules_allowed(m, ok) and judges_allowed(ok, v)
+
+
+def says_yes(row, q):
+    return row & POWERS[q] != 0
+
+
+def count_yes(v, q):
+    return len([row for row in v if says_yes(row, q)])
+
+
+def most_say_yes(v, q):
+    # Doubled instead of halved, so that a tie of an even number stays below.
+    return 2 * count_yes(v, q) > len(v)
+
+
+def majorities_row(m, v):
+    row = 0
+    for q in range(m):
+        if most_say_yes(v, q):
+            row = row + POWERS[q]
+    return row
+
+
+def major(m, ok, v):
+    if not panel_allowed(m, ok, v):
+        return [REFUSED]
+    row = majorities_row(m, v)
+    return [row, 1 if row in ok else 0]
+
+
+def counts(m, ok, v):
+    if not panel_allowed(m, ok, v):
+        return [REFUSED]
+    return [m] + [count_yes(v, q) for q in range(m)]

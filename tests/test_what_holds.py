@@ -1,0 +1,129 @@
+"""Point 3 as far as it speaks of the majorities' row, over whole families of panels."""
+
+import itertools
+import unittest
+
+from majorityrows.panel import counts, major
+
+
+def answer(row, q):
+    return row // 2 ** q % 2
+
+
+def row_of_three(x, y, z):
+    return (x & y) | (y & z) | (x & z)
+
+
+def panels(m, judges):
+    return itertools.combinations_with_replacement(range(2 ** m), judges)
+
+
+def strided_panels(m, judges):
+    # Too many panels to go through all: rows picked by steps that reach every row of m questions.
+    for start in range(2 ** m):
+        for step in range(1, 2 ** m, 2):
+            yield tuple((start + step * k * k + k) % 2 ** m for k in range(judges))
+
+
+def odd_panels():
+    for m, judges in ((1, 1), (1, 3), (1, 15), (2, 3), (2, 5), (2, 15), (3, 1), (3, 3), (3, 5), (3, 7),
+                      (4, 3), (4, 5), (5, 1), (5, 3)):
+        for v in panels(m, judges):
+            yield m, list(v)
+    for m, judges in ((4, 9), (4, 15), (5, 5), (5, 7), (5, 13), (5, 15)):
+        for v in strided_panels(m, judges):
+            yield m, list(v)
+
+
+def even_panels():
+    for m, judges in ((1, 2), (1, 14), (2, 2), (2, 4), (3, 2), (3, 4), (4, 2), (4, 4), (5, 2)):
+        for v in panels(m, judges):
+            yield m, list(v)
+    for m, judges in ((4, 8), (5, 6), (5, 14)):
+        for v in strided_panels(m, judges):
+            yield m, list(v)
+
+
+def every_rules(m):
+    rows = range(2 ** m)
+    for many in range(1, 2 ** m + 1):
+        for rules in itertools.combinations(rows, many):
+            yield list(rules)
+
+
+def is_closed(rules):
+    return all(row_of_three(*three) in rules for three in itertools.combinations(rules, 3))
+
+
+class MajoritiesRow(unittest.TestCase):
+    def test_it_has_what_more_than_half_say(self):
+        for m, v in itertools.chain(odd_panels(), even_panels()):
+            yes = [sum(answer(row, q) for row in v) for q in range(m)]
+            expected = sum(2 ** q for q in range(m) if yes[q] > len(v) - yes[q])
+            rules = sorted(set(v))
+            self.assertEqual(counts(m, rules, v), [m] + yes)
+            self.assertEqual(major(m, rules, v), [expected, int(expected in rules)])
+
+    def test_the_rules_decide_only_whether_it_may_stand(self):
+        for said in itertools.chain(panels(3, 3), panels(3, 4)):
+            v = list(said)
+            row = major(3, sorted(set(v)), v)[0]
+            with_row = sorted(set(v) | {row})
+            self.assertEqual(major(3, with_row, v), [row, 1])
+            self.assertEqual(major(3, list(range(7, -1, -1)), v), [row, 1])
+            without_row = sorted((set(range(8)) - {row}) | set(v))
+            self.assertEqual(major(3, without_row, v), [row, int(row in v)])
+
+    def test_the_row_of_three_is_the_majorities_of_three_judges(self):
+        rows = list(range(16))
+        for x, y, z in itertools.product(rows, repeat=3):
+            self.assertEqual(major(4, rows, [x, y, z]), [row_of_three(x, y, z), 1])
+
+
+class OddNumberOfJudges(unittest.TestCase):
+    def test_some_judge_gives_any_two_of_its_answers_together(self):
+        for m, v in odd_panels():
+            row = major(m, sorted(set(v)), v)[0]
+            for q, p in itertools.combinations_with_replacement(range(m), 2):
+                self.assertTrue(
+                    any(answer(said, q) == answer(row, q) and answer(said, p) == answer(row, p) for said in v),
+                    (m, v, row, q, p))
+
+    def test_a_question_answered_the_other_way_turns_in_the_majorities_row(self):
+        for m, v in odd_panels():
+            rules = sorted(set(v))
+            row, stands = major(m, rules, v)
+            for q in range(m):
+                turned_rules = [said ^ 2 ** q for said in rules]
+                turned = [said ^ 2 ** q for said in v]
+                self.assertEqual(major(m, turned_rules, turned), [row ^ 2 ** q, stands])
+                yes = counts(m, rules, v)
+                yes[1 + q] = len(v) - yes[1 + q]
+                self.assertEqual(counts(m, turned_rules, turned), yes)
+
+    def test_it_may_always_stand_just_if_the_rules_are_closed(self):
+        for m, numbers in ((1, (1, 3, 5)), (2, (1, 3, 5, 7)), (3, (1, 3, 5))):
+            for rules in every_rules(m):
+                stands = [
+                    major(m, rules, list(v))[1] == 1
+                    for judges in numbers
+                    for v in itertools.combinations_with_replacement(rules, judges)
+                ]
+                self.assertEqual(all(stands), is_closed(rules), (m, rules))
+
+
+class EvenNumberOfJudges(unittest.TestCase):
+    def test_a_tie_is_no_either_way_round(self):
+        self.assertEqual(major(1, [0, 1], [0, 1]), [0, 1])
+        self.assertEqual(major(1, [1, 0], [1, 0]), [0, 1])
+        self.assertEqual(major(2, [1, 2], [1, 2]), [0, 0])
+        self.assertEqual(major(2, [0, 3], [0, 3]), [0, 1])
+
+    def test_no_judge_need_give_two_of_its_answers_together(self):
+        # One judge says yes and no, the other no and yes; the row says no and no.
+        row = major(2, [1, 2], [1, 2])[0]
+        self.assertEqual([answer(row, 0), answer(row, 1)], [0, 0])
+
+
+if __name__ == "__main__":
+    unittest.main()
