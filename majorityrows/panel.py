@@ -1,4 +1,4 @@
-"""The calls over a panel: m questions, ok the rows that may stand, v what the judges say."""
+"""The calls over a panel: m questions, ok the rows that may stand, v what the judges say; x, y and z are rows."""
 
 REFUSED = -22
 MOST_QUESTIONS = 5
@@ -45,6 +45,10 @@ def panel_allowed(m, ok, v):
     return questions_allowed(m) and rules_allowed(m, ok) and judges_allowed(ok, v)
 
 
+def three_allowed(m, x, y, z):
+    return questions_allowed(m) and is_row(m, x) and is_row(m, y) and is_row(m, z)
+
+
 def says_yes(row, q):
     return row & POWERS[q] != 0
 
@@ -66,6 +70,15 @@ def majorities_row(m, v):
     return row
 
 
+def row_of_three(x, y, z):
+    # Two of three say yes just if some pair does, and where none does two say no: all questions go at once.
+    return (x & y) | (x & z) | (y & z)
+
+
+def who_says(v, row):
+    return [judge for judge in range(len(v)) if v[judge] == row]
+
+
 def major(m, ok, v):
     if not panel_allowed(m, ok, v):
         return [REFUSED]
@@ -77,3 +90,16 @@ def counts(m, ok, v):
     if not panel_allowed(m, ok, v):
         return [REFUSED]
     return [m] + [count_yes(v, q) for q in range(m)]
+
+
+def agree(m, ok, v):
+    if not panel_allowed(m, ok, v):
+        return [REFUSED]
+    who = who_says(v, majorities_row(m, v))
+    return [len(who)] + who
+
+
+def median(m, x, y, z):
+    if not three_allowed(m, x, y, z):
+        return [REFUSED]
+    return [row_of_three(x, y, z)]

@@ -8,9 +8,9 @@ import pathlib
 import unittest
 
 import majorityrows.panel
-from majorityrows.panel import counts, major
+from majorityrows.panel import agree, counts, major, median
 
-CALLS = (major, counts)
+PANEL_CALLS = (major, counts, agree)
 PANELS = (
     (1, [0, 1], [1, 0, 1]),
     (3, [7, 2, 1, 0], [1, 2, 7]),
@@ -27,6 +27,17 @@ PANELS = (
     (3, [2, 1], [1] * 16),
     (5, list(range(40)), [7] * 40),
 )
+THREES = (
+    (1, 0, 1, 1),
+    (3, 1, 2, 7),
+    (3, 4, 2, 1),
+    (5, 31, 31, 31),
+    (0, 0, 0, 0),
+    (6, 0, 0, 0),
+    (3, 8, 1, 1),
+    (3, 1, 1, 4294967295),
+)
+CASES = tuple((call, panel) for call in PANEL_CALLS for panel in PANELS) + tuple((median, three) for three in THREES)
 PACKAGE = pathlib.Path(majorityrows.panel.__file__).parent
 
 
@@ -41,85 +52,104 @@ class Untouchable(list):
     __setitem__ = __delitem__ = __iadd__ = __imul__ = refuse_change
 
 
+def copied(handed, kind=list):
+    return tuple(kind(one) if isinstance(one, list) else one for one in handed)
+
+
 class Kinds(unittest.TestCase):
     def test_parameters_are_called_as_told(self):
-        for call in CALLS:
+        for call in PANEL_CALLS:
             self.assertEqual(list(inspect.signature(call).parameters), ["m", "ok", "v"])
-            self.assertEqual(call(m=1, ok=[1], v=[1]), [1, 1])
+        self.assertEqual(list(inspect.signature(median).parameters), ["m", "x", "y", "z"])
+
+    def test_parameters_may_be_named(self):
+        self.assertEqual(major(v=[1], ok=[1], m=1), [1, 1])
+        self.assertEqual(counts(v=[1], ok=[1], m=1), [1, 1])
+        self.assertEqual(agree(v=[1], ok=[1], m=1), [1, 0])
+        self.assertEqual(median(z=7, y=2, x=1, m=3), [3])
+
+    def test_every_parameter_is_needed(self):
+        for call in PANEL_CALLS + (median,):
+            for parameter in inspect.signature(call).parameters.values():
+                self.assertIs(parameter.default, inspect.Parameter.empty)
 
     def test_one_list_of_ints_is_given_back(self):
-        for call in CALLS:
-            for m, ok, v in PANELS:
-                given = call(m, ok, v)
-                self.assertIs(type(given), list)
-                for number in given:
-                    self.assertIs(type(number), int)
+        for call, handed in CASES:
+            given = call(*handed)
+            self.assertIs(type(given), list)
+            for number in given:
+                self.assertIs(type(number), int)
 
     def test_how_many_numbers_are_given_back(self):
         for m in range(1, 6):
             self.assertEqual(len(major(m, [0, 1], [1, 0, 1])), 2)
             self.assertEqual(len(counts(m, [0, 1], [1, 0, 1])), m + 1)
+            self.assertEqual(len(agree(m, [0, 1], [1, 0, 1])), 3)
+            self.assertEqual(len(median(m, 1, 0, 1)), 1)
 
     def test_only_a_refusal_is_below_zero(self):
-        for call in CALLS:
-            for m, ok, v in PANELS:
-                given = call(m, ok, v)
-                self.assertTrue(given == [-22] or min(given) >= 0)
+        for call, handed in CASES:
+            given = call(*handed)
+            self.assertTrue(given == [-22] or min(given) >= 0)
 
 
 class HandedIn(unittest.TestCase):
     def test_lists_are_afterwards_what_they_were(self):
-        for call in CALLS:
-            for m, ok, v in PANELS:
-                rules, judges = list(ok), list(v)
-                call(m, rules, judges)
-                self.assertEqual((rules, judges), (ok, v))
+        for call, handed in CASES:
+            copies = copied(handed)
+            call(*copies)
+            self.assertEqual(copies, handed)
 
     def test_lists_are_not_changed_for_a_while_either(self):
-        for call in CALLS:
-            for m, ok, v in PANELS:
-                self.assertEqual(call(m, Untouchable(ok), Untouchable(v)), call(m, ok, v))
+        for call, handed in CASES:
+            self.assertEqual(call(*copied(handed, Untouchable)), call(*handed))
 
     def test_the_same_list_may_be_both(self):
         rows = [1, 2, 7]
         self.assertEqual(major(3, rows, rows), [3, 0])
         self.assertEqual(counts(3, rows, rows), [3, 2, 2, 1])
+        self.assertEqual(agree(3, rows, rows), [0])
         self.assertEqual(rows, [1, 2, 7])
 
 
 class NothingKept(unittest.TestCase):
     def test_calls_in_any_order_answer_alike(self):
-        first = [call(*panel) for panel in PANELS for call in CALLS]
-        again = [call(*panel) for panel in PANELS for call in CALLS]
-        backwards = [call(*panel) for panel in PANELS[::-1] for call in CALLS[::-1]]
+        first = [call(*handed) for call, handed in CASES]
+        again = [call(*handed) for call, handed in CASES]
+        backwards = [call(*handed) for call, handed in CASES[::-1]]
         self.assertEqual(again, first)
         self.assertEqual(backwards[::-1], first)
 
+    def test_a_call_twice_in_a_row_answers_alike(self):
+        for call, handed in CASES:
+            self.assertEqual(call(*handed), call(*handed))
+
     def test_what_is_done_to_an_answer_does_not_reach_the_next(self):
-        for call in CALLS:
-            for panel in PANELS:
-                given = call(*panel)
-                expected = list(given)
-                given.append(99)
-                given[0] = 99
-                self.assertEqual(call(*panel), expected)
+        for call, handed in CASES:
+            given = call(*handed)
+            expected = list(given)
+            given.append(99)
+            given[0] = 99
+            self.assertEqual(call(*handed), expected)
 
     def test_what_is_done_to_the_lists_afterwards_is_seen_by_the_next_call(self):
         ok, v = [0, 1, 2, 7], [1, 2, 7]
         self.assertEqual(major(3, ok, v), [3, 0])
+        self.assertEqual(agree(3, ok, v), [0])
         ok.append(3)
         self.assertEqual(major(3, ok, v), [3, 1])
         v.append(7)
         self.assertEqual(counts(3, ok, v), [3, 3, 3, 2])
+        v.append(3)
+        self.assertEqual(agree(3, ok, v), [1, 4])
 
 
 class NothingElse(unittest.TestCase):
     def test_nothing_is_printed(self):
         out, err = io.StringIO(), io.StringIO()
         with contextlib.redirect_stdout(out), contextlib.redirect_stderr(err):
-            for call in CALLS:
-                for panel in PANELS:
-                    call(*panel)
+            for call, handed in CASES:
+                call(*handed)
         self.assertEqual((out.getvalue(), err.getvalue()), ("", ""))
 
     def test_the_package_imports_prints_and_reads_nothing(self):

@@ -2,21 +2,25 @@
 
 import unittest
 
-from majorityrows.panel import counts, major
+from majorityrows.panel import agree, counts, major
+
+CALLS = (major, counts, agree)
 
 
 class PanelCase(unittest.TestCase):
     def refused(self, m, ok, v):
-        for call in (major, counts):
+        for call in CALLS:
             with self.subTest(call=call.__name__, m=m, ok=ok, v=v):
                 self.assertEqual(call(m, ok, v), [-22])
 
     def allowed(self, m, ok, v):
-        for call in (major, counts):
+        for call in CALLS:
             with self.subTest(call=call.__name__, m=m, ok=ok, v=v):
                 self.assertGreaterEqual(min(call(m, ok, v)), 0)
         self.assertEqual(len(major(m, ok, v)), 2)
         self.assertEqual(len(counts(m, ok, v)), m + 1)
+        who = agree(m, ok, v)
+        self.assertEqual(len(who), who[0] + 1)
 
 
 class Refusals(PanelCase):
@@ -69,6 +73,7 @@ class Refusals(PanelCase):
     def test_fifteen_judges_are_all_heard(self):
         self.assertEqual(major(1, [0, 1], [1] * 15), [1, 1])
         self.assertEqual(counts(1, [0, 1], [1] * 15), [1, 15])
+        self.assertEqual(agree(1, [0, 1], [1] * 15), [15] + list(range(15)))
 
     def test_a_judge_says_what_may_not_stand(self):
         self.refused(1, [0], [1])

@@ -1,9 +1,9 @@
-"""Point 3 as far as it speaks of the majorities' row, over whole families of panels."""
+"""Point 3 as far as it speaks of the majorities' row and the row of three, over whole families of panels."""
 
 import itertools
 import unittest
 
-from majorityrows.panel import counts, major
+from majorityrows.panel import agree, counts, major, median
 
 
 def answer(row, q):
@@ -11,7 +11,7 @@ def answer(row, q):
 
 
 def row_of_three(x, y, z):
-    return (x & y) | (y & z) | (x & z)
+    return sum(2 ** q for q in range(5) if answer(x, q) + answer(y, q) + answer(z, q) >= 2)
 
 
 def panels(m, judges):
@@ -63,6 +63,8 @@ class MajoritiesRow(unittest.TestCase):
             rules = sorted(set(v))
             self.assertEqual(counts(m, rules, v), [m] + yes)
             self.assertEqual(major(m, rules, v), [expected, int(expected in rules)])
+            who = [judge for judge, said in enumerate(v) if said == expected]
+            self.assertEqual(agree(m, rules, v), [len(who)] + who)
 
     def test_the_rules_decide_only_whether_it_may_stand(self):
         for said in itertools.chain(panels(3, 3), panels(3, 4)):
@@ -74,10 +76,35 @@ class MajoritiesRow(unittest.TestCase):
             without_row = sorted((set(range(8)) - {row}) | set(v))
             self.assertEqual(major(3, without_row, v), [row, int(row in v)])
 
-    def test_the_row_of_three_is_the_majorities_of_three_judges(self):
+    def test_the_rules_do_not_decide_who_says_it(self):
+        for said in itertools.chain(panels(3, 3), panels(3, 4)):
+            v = list(said)
+            self.assertEqual(agree(3, sorted(set(v)), v), agree(3, list(range(7, -1, -1)), v))
+
+    def test_it_may_stand_if_some_judge_says_it(self):
+        for m, v in itertools.chain(odd_panels(), even_panels()):
+            rules = sorted(set(v))
+            # With just the judges' rows as rules it may stand only then.
+            self.assertEqual(major(m, rules, v)[1] == 1, agree(m, rules, v)[0] > 0)
+
+
+class RowOfThree(unittest.TestCase):
+    def test_it_has_what_two_of_them_say(self):
+        for m in range(1, 6):
+            for x, y, z in itertools.product(range(2 ** m), repeat=3):
+                self.assertEqual(median(m, x, y, z), [row_of_three(x, y, z)])
+
+    def test_it_is_the_majorities_of_three_judges(self):
+        for m in range(1, 6):
+            rows = list(range(2 ** m))
+            for x, y, z in itertools.combinations_with_replacement(rows, 3):
+                self.assertEqual(major(m, rows, [z, x, y]), median(m, x, y, z) + [1])
+
+    def test_the_judges_who_say_it(self):
         rows = list(range(16))
-        for x, y, z in itertools.product(rows, repeat=3):
-            self.assertEqual(major(4, rows, [x, y, z]), [row_of_three(x, y, z), 1])
+        for three in itertools.product(rows, repeat=3):
+            row = median(4, *three)[0]
+            self.assertEqual(agree(4, rows, list(three))[1:], [k for k in range(3) if three[k] == row])
 
 
 class OddNumberOfJudges(unittest.TestCase):
@@ -97,6 +124,7 @@ class OddNumberOfJudges(unittest.TestCase):
                 turned_rules = [said ^ 2 ** q for said in rules]
                 turned = [said ^ 2 ** q for said in v]
                 self.assertEqual(major(m, turned_rules, turned), [row ^ 2 ** q, stands])
+                self.assertEqual(agree(m, turned_rules, turned), agree(m, rules, v))
                 yes = counts(m, rules, v)
                 yes[1 + q] = len(v) - yes[1 + q]
                 self.assertEqual(counts(m, turned_rules, turned), yes)
