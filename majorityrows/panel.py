@@ -22,7 +22,8 @@ def questions_allowed(m):
 
 
 def rules_allowed(m, ok):
-    if not isinstance(ok, list) or len(ok) == 0:
+    # m goes first: the rows are measured by POWERS[m], which is there for an allowed m alone.
+    if not questions_allowed(m) or not isinstance(ok, list) or len(ok) == 0:
         return False
     for row in ok:
         if not is_row(m, row) or ok.count(row) > 1:
@@ -41,8 +42,7 @@ def judges_allowed(ok, v):
 
 
 def panel_allowed(m, ok, v):
-    # m goes first: the rows are measured by POWERS[m], which is there for an allowed m alone.
-    return questions_allowed(m) and rules_allowed(m, ok) and judges_allowed(ok, v)
+    return rules_allowed(m, ok) and judges_allowed(ok, v)
 
 
 def three_allowed(m, x, y, z):
@@ -75,6 +75,28 @@ def row_of_three(x, y, z):
     return (x & y) | (x & z) | (y & z)
 
 
+def first_three_outside(rows):
+    # The rows come rising, so the threes do too, and in the order that the document asks for.
+    # Threes with a row twice are left out: their row of three is that row.
+    for i in range(len(rows)):
+        for j in range(i + 1, len(rows)):
+            for k in range(j + 1, len(rows)):
+                if row_of_three(rows[i], rows[j], rows[k]) not in rows:
+                    return [rows[i], rows[j], rows[k]]
+    return []
+
+
+def hull_rows(ok):
+    # A row that three of the hull's rows call for is in it whatever else is, so taking in
+    # one after another until none is called for gives the least set.
+    rows = sorted(ok)
+    three = first_three_outside(rows)
+    while len(three) > 0:
+        rows = sorted(rows + [row_of_three(three[0], three[1], three[2])])
+        three = first_three_outside(rows)
+    return rows
+
+
 def who_says(v, row):
     return [judge for judge in range(len(v)) if v[judge] == row]
 
@@ -103,3 +125,17 @@ def median(m, x, y, z):
     if not three_allowed(m, x, y, z):
         return [REFUSED]
     return [row_of_three(x, y, z)]
+
+
+def closed(m, ok):
+    if not rules_allowed(m, ok):
+        return [REFUSED]
+    three = first_three_outside(sorted(ok))
+    return [1] if len(three) == 0 else [0] + three
+
+
+def hull(m, ok):
+    if not rules_allowed(m, ok):
+        return [REFUSED]
+    rows = hull_rows(ok)
+    return [len(rows)] + rows

@@ -5,12 +5,22 @@ import contextlib
 import inspect
 import io
 import pathlib
+import sys
 import unittest
 
 import majorityrows.panel
-from majorityrows.panel import agree, counts, major, median
+from majorityrows.panel import agree, closed, counts, hull, major, median
 
+PARAMETERS = (
+    (major, ["m", "ok", "v"]),
+    (counts, ["m", "ok", "v"]),
+    (agree, ["m", "ok", "v"]),
+    (median, ["m", "x", "y", "z"]),
+    (closed, ["m", "ok"]),
+    (hull, ["m", "ok"]),
+)
 PANEL_CALLS = (major, counts, agree)
+RULES_CALLS = (closed, hull)
 PANELS = (
     (1, [0, 1], [1, 0, 1]),
     (3, [7, 2, 1, 0], [1, 2, 7]),
@@ -37,7 +47,28 @@ THREES = (
     (3, 8, 1, 1),
     (3, 1, 1, 4294967295),
 )
-CASES = tuple((call, panel) for call in PANEL_CALLS for panel in PANELS) + tuple((median, three) for three in THREES)
+RULES = (
+    (1, [1]),
+    (1, [1, 0]),
+    (3, [7, 2, 1, 0]),
+    (3, [4, 2, 1]),
+    (4, [15, 0, 4, 2, 1]),
+    (4, [14, 5, 3, 0]),
+    (5, [31, 16, 8, 4, 2, 1]),
+    (5, list(range(31, -1, -1))),
+    (5, list(range(31, 0, -1))),
+    (0, [0]),
+    (6, [0]),
+    (3, []),
+    (3, [2, 1, 2]),
+    (3, [8, 1]),
+    (5, list(range(39, -1, -1))),
+)
+CASES = (
+    tuple((call, panel) for call in PANEL_CALLS for panel in PANELS)
+    + tuple((median, three) for three in THREES)
+    + tuple((call, rules) for call in RULES_CALLS for rules in RULES)
+)
 PACKAGE = pathlib.Path(majorityrows.panel.__file__).parent
 
 
@@ -58,18 +89,19 @@ def copied(handed, kind=list):
 
 class Kinds(unittest.TestCase):
     def test_parameters_are_called_as_told(self):
-        for call in PANEL_CALLS:
-            self.assertEqual(list(inspect.signature(call).parameters), ["m", "ok", "v"])
-        self.assertEqual(list(inspect.signature(median).parameters), ["m", "x", "y", "z"])
+        for call, names in PARAMETERS:
+            self.assertEqual(list(inspect.signature(call).parameters), names)
 
     def test_parameters_may_be_named(self):
         self.assertEqual(major(v=[1], ok=[1], m=1), [1, 1])
         self.assertEqual(counts(v=[1], ok=[1], m=1), [1, 1])
         self.assertEqual(agree(v=[1], ok=[1], m=1), [1, 0])
         self.assertEqual(median(z=7, y=2, x=1, m=3), [3])
+        self.assertEqual(closed(ok=[4, 2, 1], m=3), [0, 1, 2, 4])
+        self.assertEqual(hull(ok=[4, 2, 1], m=3), [4, 0, 1, 2, 4])
 
     def test_every_parameter_is_needed(self):
-        for call in PANEL_CALLS + (median,):
+        for call, names in PARAMETERS:
             for parameter in inspect.signature(call).parameters.values():
                 self.assertIs(parameter.default, inspect.Parameter.empty)
 
@@ -86,6 +118,11 @@ class Kinds(unittest.TestCase):
             self.assertEqual(len(counts(m, [0, 1], [1, 0, 1])), m + 1)
             self.assertEqual(len(agree(m, [0, 1], [1, 0, 1])), 3)
             self.assertEqual(len(median(m, 1, 0, 1)), 1)
+            self.assertEqual(len(closed(m, [0, 1])), 1)
+            self.assertEqual(len(hull(m, [0, 1])), 3)
+        for m in range(3, 6):
+            self.assertEqual(len(closed(m, [1, 2, 4])), 4)
+            self.assertEqual(len(hull(m, [1, 2, 4])), 5)
 
     def test_only_a_refusal_is_below_zero(self):
         for call, handed in CASES:
@@ -142,6 +179,29 @@ class NothingKept(unittest.TestCase):
         self.assertEqual(counts(3, ok, v), [3, 3, 3, 2])
         v.append(3)
         self.assertEqual(agree(3, ok, v), [1, 4])
+
+    def test_rules_that_grow_between_two_calls(self):
+        ok = [2, 1]
+        self.assertEqual(closed(3, ok), [1])
+        self.assertEqual(hull(3, ok), [2, 1, 2])
+        ok.append(4)
+        self.assertEqual(closed(3, ok), [0, 1, 2, 4])
+        self.assertEqual(hull(3, ok), [4, 0, 1, 2, 4])
+        ok.append(0)
+        self.assertEqual(closed(3, ok), [1])
+        self.assertEqual(hull(3, ok), [4, 0, 1, 2, 4])
+
+
+class Loops(unittest.TestCase):
+    def test_few_calls_lie_within_one_another(self):
+        # Fewer than the longest lists and the largest hull have rows.
+        allowed = sys.getrecursionlimit()
+        sys.setrecursionlimit(len(inspect.stack(0)) + 15)
+        try:
+            given = [call(*handed) for call, handed in CASES]
+        finally:
+            sys.setrecursionlimit(allowed)
+        self.assertEqual(given, [call(*handed) for call, handed in CASES])
 
 
 class NothingElse(unittest.TestCase):

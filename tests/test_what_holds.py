@@ -1,17 +1,10 @@
-"""Point 3 as far as it speaks of the majorities' row and the row of three, over whole families of panels."""
+"""Point 3 as far as it speaks of the majorities' row, the row of three and closed rules, over families of panels."""
 
 import itertools
 import unittest
 
-from majorityrows.panel import agree, counts, major, median
-
-
-def answer(row, q):
-    return row // 2 ** q % 2
-
-
-def row_of_three(x, y, z):
-    return sum(2 ** q for q in range(5) if answer(x, q) + answer(y, q) + answer(z, q) >= 2)
+from majorityrows.panel import agree, closed, counts, hull, major, median
+from words import answer, every_rules, row_of_three, strided_rules
 
 
 def panels(m, judges):
@@ -35,6 +28,13 @@ def odd_panels():
             yield m, list(v)
 
 
+def odd_judges(rules):
+    # Steps through the rules, so that each of them is said by some and the judges differ.
+    for judges in (1, 3, 5, 7, 15):
+        for step in range(1, len(rules) + 1):
+            yield [rules[(step * k * k + k) % len(rules)] for k in range(judges)]
+
+
 def even_panels():
     for m, judges in ((1, 2), (1, 14), (2, 2), (2, 4), (3, 2), (3, 4), (4, 2), (4, 4), (5, 2)):
         for v in panels(m, judges):
@@ -42,17 +42,6 @@ def even_panels():
     for m, judges in ((4, 8), (5, 6), (5, 14)):
         for v in strided_panels(m, judges):
             yield m, list(v)
-
-
-def every_rules(m):
-    rows = range(2 ** m)
-    for many in range(1, 2 ** m + 1):
-        for rules in itertools.combinations(rows, many):
-            yield list(rules)
-
-
-def is_closed(rules):
-    return all(row_of_three(*three) in rules for three in itertools.combinations(rules, 3))
 
 
 class MajoritiesRow(unittest.TestCase):
@@ -137,7 +126,23 @@ class OddNumberOfJudges(unittest.TestCase):
                     for judges in numbers
                     for v in itertools.combinations_with_replacement(rules, judges)
                 ]
-                self.assertEqual(all(stands), is_closed(rules), (m, rules))
+                self.assertEqual(all(stands), closed(m, rules) == [1], (m, rules))
+
+    def test_it_may_stand_by_closed_rules_of_many_questions(self):
+        for m in (4, 5):
+            for rules in strided_rules(m):
+                rows = hull(m, rules)[1:]
+                self.assertEqual(closed(m, rows), [1])
+                for v in odd_judges(rules):
+                    self.assertEqual(major(m, rows, v)[1], 1, (m, rows, v))
+
+    def test_it_may_not_stand_if_the_judges_are_the_three_that_closed_tells(self):
+        for m in (3, 4, 5):
+            for rules in strided_rules(m):
+                given = closed(m, rules)
+                if given != [1]:
+                    self.assertEqual(major(m, rules, given[1:])[1], 0, (m, rules))
+                    self.assertEqual(major(m, rules, given[1:] * 5)[1], 0, (m, rules))
 
 
 class EvenNumberOfJudges(unittest.TestCase):
