@@ -1,4 +1,4 @@
-"""The calls over a panel: m questions, ok the rows that may stand, v what the judges say; x, y and z are rows."""
+"""The calls over a panel: m questions, ok the rows that may stand, v what the judges say; x, y, z and r are rows."""
 
 REFUSED = -22
 MOST_QUESTIONS = 5
@@ -49,6 +49,10 @@ def three_allowed(m, x, y, z):
     return questions_allowed(m) and is_row(m, x) and is_row(m, y) and is_row(m, z)
 
 
+def row_and_rules_allowed(m, r, ok):
+    return rules_allowed(m, ok) and is_row(m, r)
+
+
 def says_yes(row, q):
     return row & POWERS[q] != 0
 
@@ -97,6 +101,26 @@ def hull_rows(ok):
     return rows
 
 
+def same_answer(x, y, q):
+    return says_yes(x, q) == says_yes(y, q)
+
+
+def some_row_has_both(ok, r, q, p):
+    for row in ok:
+        if same_answer(row, r, q) and same_answer(row, r, p):
+            return True
+    return False
+
+
+def is_there_in_pairs(m, r, ok):
+    for q in range(m):
+        # A question goes with itself, too: of one question there is but the one answer.
+        for p in range(q, m):
+            if not some_row_has_both(ok, r, q, p):
+                return False
+    return True
+
+
 def who_says(v, row):
     return [judge for judge in range(len(v)) if v[judge] == row]
 
@@ -139,3 +163,9 @@ def hull(m, ok):
         return [REFUSED]
     rows = hull_rows(ok)
     return [len(rows)] + rows
+
+
+def pairs(m, r, ok):
+    if not row_and_rules_allowed(m, r, ok):
+        return [REFUSED]
+    return [1 if is_there_in_pairs(m, r, ok) else 0]

@@ -1,9 +1,18 @@
-"""closed and hull over every set of rules of few questions, and many of more, held against the document's words."""
+"""closed, hull and pairs over every set of rules of few questions, and many of more, against the document's words."""
 
 import unittest
 
-from majorityrows.panel import closed, hull, median
-from words import every_rules, is_closed, least_of, orders, row_of_three, strided_rules, threes_outside
+from majorityrows.panel import closed, hull, median, pairs
+from words import (
+    every_rules,
+    is_closed,
+    is_there_in_pairs,
+    least_of,
+    orders,
+    row_of_three,
+    strided_rules,
+    threes_outside,
+)
 
 
 def many_rules():
@@ -90,7 +99,54 @@ class Hull(unittest.TestCase):
                 self.assertEqual(hull(m, ok), given, (m, ok))
 
 
-class BothTogether(unittest.TestCase):
+class Pairs(unittest.TestCase):
+    def test_it_is_one_just_if_each_two_answers_go_together(self):
+        for m in (1, 2, 3):
+            for rules in every_rules(m):
+                for r in range(2 ** m):
+                    self.assertEqual(pairs(m, r, rules), [int(is_there_in_pairs(m, r, rules))], (m, r, rules))
+
+    def test_it_is_so_with_four_and_five_questions(self):
+        for m in (4, 5):
+            for rules in list(strided_rules(m))[::7]:
+                for r in range(2 ** m):
+                    self.assertEqual(pairs(m, r, rules), [int(is_there_in_pairs(m, r, rules))], (m, r, rules))
+
+    def test_the_order_of_the_rules_does_not_matter(self):
+        for m, rules in list(many_rules())[::5]:
+            for r in range(2 ** m):
+                given = pairs(m, r, rules)
+                for ok in orders(rules):
+                    self.assertEqual(pairs(m, r, ok), given, (m, r, ok))
+
+
+class TheHullAndThePairs(unittest.TestCase):
+    """The hull is just the rows that are there in pairs."""
+
+    def hull_is_the_rows_there_in_pairs(self, m, rules):
+        rows = [r for r in range(2 ** m) if pairs(m, r, rules) == [1]]
+        self.assertEqual(hull(m, rules), [len(rows)] + rows, (m, rules))
+
+    def test_few_questions(self):
+        for m in (1, 2, 3):
+            for rules in every_rules(m):
+                self.hull_is_the_rows_there_in_pairs(m, rules)
+
+    def test_four_questions(self):
+        for rules in list(every_rules(4))[::11]:
+            self.hull_is_the_rows_there_in_pairs(4, rules)
+
+    def test_five_questions(self):
+        for rules in strided_rules(5):
+            self.hull_is_the_rows_there_in_pairs(5, rules)
+
+    def test_rules_are_closed_just_if_no_other_row_is_there_in_pairs(self):
+        for m, rules in many_rules():
+            others = [r for r in range(2 ** m) if r not in rules and pairs(m, r, rules) == [1]]
+            self.assertEqual(closed(m, rules) == [1], others == [], (m, rules))
+
+
+class TheHullAndClosedRules(unittest.TestCase):
     def test_rules_are_closed_just_if_they_are_their_own_hull(self):
         for m, rules in many_rules():
             self.assertEqual(closed(m, rules) == [1], hull(m, rules)[1:] == sorted(rules), (m, rules))

@@ -9,7 +9,7 @@ import sys
 import unittest
 
 import majorityrows.panel
-from majorityrows.panel import agree, closed, counts, hull, major, median
+from majorityrows.panel import agree, closed, counts, hull, major, median, pairs
 
 PARAMETERS = (
     (major, ["m", "ok", "v"]),
@@ -18,6 +18,7 @@ PARAMETERS = (
     (median, ["m", "x", "y", "z"]),
     (closed, ["m", "ok"]),
     (hull, ["m", "ok"]),
+    (pairs, ["m", "r", "ok"]),
 )
 PANEL_CALLS = (major, counts, agree)
 RULES_CALLS = (closed, hull)
@@ -64,10 +65,29 @@ RULES = (
     (3, [8, 1]),
     (5, list(range(39, -1, -1))),
 )
+ROW_AND_RULES = (
+    (1, 0, [1]),
+    (1, 1, [1, 0]),
+    (3, 0, [4, 2, 1]),
+    (3, 3, [7, 2, 1, 0]),
+    (3, 4, [7, 2, 1, 0]),
+    (4, 6, [14, 5, 3, 0]),
+    (5, 31, list(range(30, -1, -1))),
+    (5, 17, [31, 0]),
+    (0, 0, [0]),
+    (6, 0, [0]),
+    (3, 0, []),
+    (3, 1, [2, 1, 2]),
+    (3, 1, [8, 1]),
+    (3, 8, [2, 1]),
+    (3, 4294967295, [2, 1]),
+    (5, 0, list(range(39, -1, -1))),
+)
 CASES = (
     tuple((call, panel) for call in PANEL_CALLS for panel in PANELS)
     + tuple((median, three) for three in THREES)
     + tuple((call, rules) for call in RULES_CALLS for rules in RULES)
+    + tuple((pairs, row_and_rules) for row_and_rules in ROW_AND_RULES)
 )
 PACKAGE = pathlib.Path(majorityrows.panel.__file__).parent
 
@@ -99,6 +119,8 @@ class Kinds(unittest.TestCase):
         self.assertEqual(median(z=7, y=2, x=1, m=3), [3])
         self.assertEqual(closed(ok=[4, 2, 1], m=3), [0, 1, 2, 4])
         self.assertEqual(hull(ok=[4, 2, 1], m=3), [4, 0, 1, 2, 4])
+        self.assertEqual(pairs(ok=[4, 2, 1], r=0, m=3), [1])
+        self.assertEqual(pairs(ok=[4, 2, 1], r=3, m=3), [0])
 
     def test_every_parameter_is_needed(self):
         for call, names in PARAMETERS:
@@ -120,6 +142,8 @@ class Kinds(unittest.TestCase):
             self.assertEqual(len(median(m, 1, 0, 1)), 1)
             self.assertEqual(len(closed(m, [0, 1])), 1)
             self.assertEqual(len(hull(m, [0, 1])), 3)
+            self.assertEqual(len(pairs(m, 0, [0, 1])), 1)
+            self.assertEqual(len(pairs(m, 0, [1])), 1)
         for m in range(3, 6):
             self.assertEqual(len(closed(m, [1, 2, 4])), 4)
             self.assertEqual(len(hull(m, [1, 2, 4])), 5)
@@ -182,9 +206,11 @@ class NothingKept(unittest.TestCase):
 
     def test_rules_that_grow_between_two_calls(self):
         ok = [2, 1]
+        self.assertEqual(pairs(3, 0, ok), [0])
         self.assertEqual(closed(3, ok), [1])
         self.assertEqual(hull(3, ok), [2, 1, 2])
         ok.append(4)
+        self.assertEqual(pairs(3, 0, ok), [1])
         self.assertEqual(closed(3, ok), [0, 1, 2, 4])
         self.assertEqual(hull(3, ok), [4, 0, 1, 2, 4])
         ok.append(0)

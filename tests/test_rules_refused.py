@@ -1,10 +1,16 @@
-"""Point 1 for the calls that take m and ok alone: each cause of -22 by itself, at its edge and with others."""
+"""Point 1 for m and ok in the calls without judges: each cause of -22 by itself, at its edge and with others."""
 
 import unittest
 
-from majorityrows.panel import closed, hull
+from majorityrows.panel import closed, hull, pairs
 
-CALLS = (closed, hull)
+
+def pairs_of_row_0(m, ok):
+    # Row 0 is a row of any number of questions, so it gives no cause itself.
+    return pairs(m, 0, ok)
+
+
+CALLS = (closed, hull, pairs_of_row_0)
 
 
 class RulesCase(unittest.TestCase):

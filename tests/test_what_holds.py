@@ -1,9 +1,9 @@
-"""Point 3 as far as it speaks of the majorities' row, the row of three and closed rules, over families of panels."""
+"""Point 3 over families of panels; what it says of the hull and of rows in pairs alone is in test_every_rules."""
 
 import itertools
 import unittest
 
-from majorityrows.panel import agree, closed, counts, hull, major, median
+from majorityrows.panel import agree, closed, counts, hull, major, median, pairs
 from words import answer, every_rules, row_of_three, strided_rules
 
 
@@ -105,6 +105,18 @@ class OddNumberOfJudges(unittest.TestCase):
                     any(answer(said, q) == answer(row, q) and answer(said, p) == answer(row, p) for said in v),
                     (m, v, row, q, p))
 
+    def test_it_is_there_in_pairs_by_what_the_judges_say(self):
+        for m, v in odd_panels():
+            rules = sorted(set(v))
+            self.assertEqual(pairs(m, major(m, rules, v)[0], rules), [1], (m, v))
+
+    def test_it_is_in_the_hull_of_the_rules(self):
+        for m in (3, 4, 5):
+            for rules in strided_rules(m):
+                rows = hull(m, rules)[1:]
+                for v in odd_judges(rules):
+                    self.assertIn(major(m, rules, v)[0], rows, (m, rules, v))
+
     def test_a_question_answered_the_other_way_turns_in_the_majorities_row(self):
         for m, v in odd_panels():
             rules = sorted(set(v))
@@ -156,6 +168,7 @@ class EvenNumberOfJudges(unittest.TestCase):
         # One judge says yes and no, the other no and yes; the row says no and no.
         row = major(2, [1, 2], [1, 2])[0]
         self.assertEqual([answer(row, 0), answer(row, 1)], [0, 0])
+        self.assertEqual(pairs(2, row, [1, 2]), [0])
 
 
 if __name__ == "__main__":

@@ -44,6 +44,15 @@ def threes_outside(rules):
     return [three for three in itertools.combinations(sorted(rules), 3) if row_of_three(*three) not in rules]
 
 
+def is_there_in_pairs(m, r, rules):
+    # A question taken with itself stands for each one answer.
+    return all(
+        any(answer(row, q) == answer(r, q) and answer(row, p) == answer(r, p) for row in rules)
+        for q in range(m)
+        for p in range(m)
+    )
+
+
 def least_of(sets):
     least = min(sets, key=len)
     if not all(least <= other for other in sets):
